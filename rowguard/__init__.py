@@ -1,0 +1,1 @@
+"""Rowguard: rows for a pile of things, looked through before they run."""
