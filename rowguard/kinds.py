@@ -43,6 +43,11 @@ def kind_of(thing):
     return "text"
 
 
+def kinds_of(pile):
+    """The kinds of the things on a pile."""
+    return [kind_of(thing) for thing in pile]
+
+
 def refuse_no_kinds(rows, given):
     """Refuses with NoKind where a take is of no kind, or a given text is none."""
     taken = [row[1] for row in rows if row[0] == "take"]
@@ -60,16 +65,21 @@ def lack_of_row(row, kinds):
     return None
 
 
+def count_taken(row):
+    """How many things a row takes off."""
+    return len(TAKEN[row[0]])
+
+
 def has_few(row, kinds):
     if row[0] == "copy":
         return row[1] < 0 or row[1] >= len(kinds)
-    return len(kinds) < len(TAKEN[row[0]])
+    return len(kinds) < count_taken(row)
 
 
 def has_wrong_kind(row, kinds):
     """Whether a thing taken off is of a wrong kind; as many as are taken off are there."""
     asked = TAKEN[row[0]]
-    upmost = kinds[len(kinds) - len(asked):]
+    upmost = kinds[len(kinds) - count_taken(row):]
     if row[0] == "same":
         return upmost[0] != upmost[1]
     return any([wanted is not None and wanted != kind for wanted, kind in zip(asked, upmost)])
@@ -77,8 +87,7 @@ def has_wrong_kind(row, kinds):
 
 def kinds_behind(row, kinds):
     """The kinds on the pile behind a row that can be done, a new list."""
-    left = kinds[:len(kinds) - len(TAKEN[row[0]])]
-    return left + kinds_put(row, kinds)
+    return kinds[:len(kinds) - count_taken(row)] + kinds_put(row, kinds)
 
 
 def kinds_put(row, kinds):

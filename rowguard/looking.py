@@ -1,7 +1,7 @@
 """Rows are looked through: a table of the kinds on the pile at each row is told, or a fault."""
 
 from rowguard.kinds import kinds_behind, refuse_no_kinds
-from rowguard.steps import spots_behind, why_not_done
+from rowguard.steps import rows_behind, why_not_done
 
 
 def looked(rows, given):
@@ -39,9 +39,7 @@ def fault_of(rows, earlier, arrival):
 def arrivals_behind(rows, arrival):
     road = arrival[0]
     kinds = kinds_behind(rows[road[-1]], arrival[1])
-    # The spot behind the last row is no row, so no road ends there.
-    behind = [spot for spot in spots_behind(rows, road[-1]) if spot < len(rows)]
-    return [(road + [spot], kinds) for spot in behind]
+    return [(road + [spot], kinds) for spot in rows_behind(rows, road[-1])]
 
 
 def table_of(rows, first):

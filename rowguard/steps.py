@@ -20,7 +20,7 @@ def jumps_astray(rows, spot):
 
 
 def spots_behind(rows, spot):
-    """The spots that may come behind the row at a spot, where that row can be done."""
+    """The spots that may come behind the row at a spot, where that row can be done; the one an if jumps to last."""
     row = rows[spot]
     if row[0] == "end":
         return [len(rows)]
@@ -29,3 +29,8 @@ def spots_behind(rows, spot):
     if row[0] == "if":
         return [spot + 1, row[1]]
     return [spot + 1]
+
+
+def rows_behind(rows, spot):
+    """The numbers of the rows that may come behind the row at a spot; the spot behind the last row is no row."""
+    return [other for other in spots_behind(rows, spot) if other < len(rows)]

@@ -5,6 +5,7 @@ Nothing here is drawn from the program, so that a fault of the program isn't sha
 
 SAMPLES = {"number": 7, "truth": True, "text": "seven"}
 KINDS = ["number", "truth", "text"]
+WORDS = ["push", "take", "add", "less", "join", "not", "same", "copy", "drop", "swap", "tell", "go", "if", "end"]
 HUGE = 10 ** 32 - 1  # thirty-two figures
 
 
@@ -64,6 +65,37 @@ def do_row(row, pile):
             pass
         case _:
             raise AssertionError(f"no row: {row!r}")
+
+
+def go_through(rows, pile, coming, most):
+    """What becomes of a run, and the pairs of a spot and the pile that it comes to."""
+    pile, spot, done, told = list(pile), 0, 0, []
+    waiting = {kind: list(things) for kind, things in zip(KINDS, coming)}
+    pairs = [(spot, tuple(pile))]
+    while spot != len(rows):
+        if done == most:
+            return ("stopped", told, pile), pairs
+        row = rows[spot]
+        upmost = pile[-1:]
+        try:
+            do_row(row, pile)
+        except CantBeDone as why:
+            return ("fell", spot, str(why)), pairs
+        if row[0] in ("go", "if") and not 0 <= row[1] <= len(rows):
+            return ("fell", spot, "jump"), pairs
+        if row[0] == "take" and waiting[row[1]]:
+            pile[-1] = waiting[row[1]].pop(0)
+        if row[0] == "tell":
+            told += upmost
+        if row[0] == "end":
+            spot = len(rows)
+        elif row[0] == "go" or row[0] == "if" and upmost == [True]:
+            spot = row[1]
+        else:
+            spot += 1
+        done += 1
+        pairs.append((spot, tuple(pile)))
+    return ("ended", told, pile), pairs
 
 
 def lack(row, kinds):

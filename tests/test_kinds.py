@@ -3,7 +3,7 @@
 import itertools
 import unittest
 
-from reference import HUGE, KINDS, behind, lack
+from reference import HUGE, KINDS, WORDS, behind, lack
 from rowguard.kinds import kinds_behind, lack_of_row
 
 # Each word with the kinds that it takes off or exchanges, the upmost last, and those it leaves in their place.
@@ -98,6 +98,10 @@ class Lack(unittest.TestCase):
         for thing in (0, 1, -1, HUGE, -HUGE, True, False, "", "a", "~ " * 50):
             self.assertIsNone(lack_of_row(("push", thing), []))
             self.assertIsNone(lack_of_row(("push", thing), ["text"]))
+        for word in WORDS:
+            for below in BELOW:
+                self.assertIsNone(lack_of_row(("push", word), below))
+                self.assertEqual(kinds_behind(("push", word), below), below + ["text"])
 
 
 class Behind(unittest.TestCase):

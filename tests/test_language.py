@@ -87,6 +87,16 @@ class Language(unittest.TestCase):
             word = node.arg if isinstance(node, ast.arg) else node.name
             self.assertFalse(word.startswith("_") or word in dir(builtins), (name, word))
 
+    def test_imports_keep_their_meaning(self):
+        for path in FILES:
+            nodes = list(ast.walk(ast.parse(path.read_text())))
+            drawn = [alias.name for node in nodes if isinstance(node, ast.ImportFrom) for alias in node.names]
+            bound = [node.id for node in nodes if isinstance(node, ast.Name) and isinstance(node.ctx, ast.Store)]
+            bound += [node.arg for node in nodes if isinstance(node, ast.arg)]
+            bound += [node.name for node in nodes if isinstance(node, (ast.FunctionDef, ast.ClassDef))]
+            self.assertEqual(len(drawn), len(set(drawn)), path.name)
+            self.assertFalse(set(drawn) & set(bound), path.name)
+
     def test_methods(self):
         for name, node in walked(ast.Attribute):
             self.assertIn(node.attr, METHODS, (name, node.lineno))

@@ -4,7 +4,8 @@ import itertools
 import random
 import unittest
 
-from reference import HUGE, KINDS, fault_is_there, kinds_at_end, only_table, table_is_sound
+from drawing import drawn_row, gentle_rows
+from reference import HUGE, KINDS, WORDS, fault_is_there, kinds_at_end, only_table, table_is_sound
 from rowguard.errors import GuardError, NoKind
 from rowguard.looking import looked
 
@@ -216,37 +217,6 @@ class JustOneIsTold(LookedCase):
         self.assertEqual(looked(rows, ["truth"]), looked(rows, ["truth"]))
 
 
-def drawn_row(draw, count):
-    word = draw.choice(["push", "take", "add", "less", "join", "not", "same", "copy", "drop", "swap", "tell", "go",
-                        "if", "end"])
-    if word == "push":
-        return (word, draw.choice([0, -3, HUGE, True, False, "", "text"]))
-    if word == "take":
-        return (word, draw.choice(KINDS))
-    if word == "copy":
-        return (word, draw.randint(-1, 4))
-    if word in ("go", "if"):
-        return (word, draw.randint(0, count) if draw.random() < 0.9 else draw.choice([-1, count + 1, HUGE]))
-    return (word,)
-
-
-def gentle_rows(draw, blocks):
-    """Blocks of rows that leave the pile as they found it, with jumps between them that are mostly to a block."""
-    starts = []
-    rows = []
-    for block in range(blocks):
-        starts.append(len(rows))
-        rows += draw.choice([
-            [("push", 1), ("drop",)], [("take", "text"), ("tell",)], [("take", "truth"), ("if", None)],
-            [("copy", 0), ("join",)], [("swap",), ("push", 4), ("add",), ("swap",)], [("go", None)], [("end",)],
-            [("copy", 1), ("push", 3), ("less",), ("if", None)], [("copy", 0), ("copy", 0), ("same",), ("not",),
-                                                                 ("if", None)]])
-    starts.append(len(rows))
-    if draw.random() < 0.5:
-        starts += [draw.randint(-1, len(rows) + 1)] * 10
-    return [(row[0], draw.choice(starts)) if row[0] in ("go", "if") else row for row in rows]
-
-
 class Refusals(LookedCase):
     def test_a_take_of_no_kind(self):
         for kind in NO_KINDS:
@@ -279,8 +249,8 @@ class Refusals(LookedCase):
             self.assert_fine([("take", kind), ("tell",)], [kind], [[kind], [kind, kind]])
 
     def test_a_pushed_text_is_never_refused(self):
-        for text in NO_KINDS:
-            self.assert_fine([("push", text)], [], [[]])
+        for text in NO_KINDS + WORDS:
+            self.assert_fine([("push", text), ("tell",)], [], [[], ["text"]])
 
     def test_it_is_a_guard_error_and_a_value_error(self):
         for refusal in (GuardError, ValueError):
